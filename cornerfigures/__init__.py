@@ -1,0 +1,1 @@
+"""Convex figures whose corners are whole points, put together."""

@@ -1,0 +1,69 @@
+"""Convex figures: each a list of its corners (x, y), round to the left, from the first one on."""
+
+
+def turn(first, second, third):
+    """Above 0 where the way over the three points bends to the left, 0 where it runs straight."""
+    return ((second[0] - first[0]) * (third[1] - first[1])
+            - (second[1] - first[1]) * (third[0] - first[0]))
+
+
+def half_round(points):
+    """The corners to the right of the way from the first point to the last; the points are in order."""
+    corners = []
+    for point in points:
+        while len(corners) > 1 and turn(corners[-2], corners[-1], point) <= 0:
+            corners.pop()
+        corners.append(point)
+    return corners
+
+
+def hull(points):
+    """The corners of the points' hull; fewer than three if all points are on one line."""
+    ordered = sorted(set(points))
+    below = half_round(ordered)
+    above = half_round(list(reversed(ordered)))
+    # Each half ends where the other one begins.
+    return below[:-1] + above[:-1]
+
+
+def put_together(first, second):
+    """The sum of two figures: the hull of all sums of their corners."""
+    points = []
+    for x, y in first:
+        points.extend([(x + u, y + v) for u, v in second])
+    return hull(points)
+
+
+def edges(figure):
+    """Both ends of each edge, round to the left."""
+    return list(zip(figure, figure[1:] + figure[:1]))
+
+
+def common_divisor(a, b):
+    """The greatest common divisor of two whole numbers that are not below 0."""
+    while b > 0:
+        rest = a % b
+        a = b
+        b = rest
+    return a
+
+
+def steps(start, end):
+    """How many steps an edge has."""
+    return common_divisor(abs(end[0] - start[0]), abs(end[1] - start[1]))
+
+
+def double_area(figure):
+    """Twice the figure's area."""
+    return sum([start[0] * end[1] - start[1] * end[0] for start, end in edges(figure)])
+
+
+def rim_points(figure):
+    """How many whole points are at the figure's rim."""
+    return sum([steps(start, end) for start, end in edges(figure)])
+
+
+def inside_points(figure):
+    """How many whole points are inside the figure."""
+    # Pick: twice the area is the rim's points, and twice those inside, less 2.
+    return (double_area(figure) - rim_points(figure) + 2) // 2
