@@ -1,6 +1,8 @@
 """The desk: calls on eight places for figures come in as one list, their answers go out as one."""
 
-from cornerfigures.figures import double_area, hull, inside_points, put_together, rim_points
+from cornerfigures.figures import double_area, dual, has_dual, hull, inside_points, put_together, rim_points, together
+from cornerfigures.parting import partings
+from cornerfigures.room import shifts
 from cornerfigures.width import width
 
 PLACES = 8
@@ -11,8 +13,10 @@ FARTHEST = 30000
 MOST_POINT_NUMBERS = 128
 MOST_CORNER_NUMBERS = 1048576
 MOST_SUM_CORNERS = 64
-# How many whole numbers of its own a call has, by its number: begin, hull, corners, about, sum.
-NUMBERS = (0, 1, 2, 1, 3)
+MOST_PARTED_RIM = 24
+# How many whole numbers of its own a call has, by its number:
+# begin, hull, corners, about, sum, mixed, parts, room, dual.
+NUMBERS = (0, 1, 2, 1, 3, 2, 1, 2, 2)
 
 
 def signed(number):
@@ -95,6 +99,46 @@ def put_sum(places, i, j, slot):
     return [len(figure)]
 
 
+def tell_mixed(places, i, j):
+    """Tell what the figures at two places have together."""
+    first = figure_at(places, i)
+    second = figure_at(places, j)
+    if first is None or second is None:
+        return [-1]
+    return [0, together(first, second)]
+
+
+def tell_parts(places, slot):
+    """Tell in how many ways the figure at a place is parted into two."""
+    figure = figure_at(places, slot)
+    if figure is None:
+        return [-1]
+    if rim_points(figure) > MOST_PARTED_RIM:
+        return [-2]
+    return [0, partings(figure)]
+
+
+def tell_room(places, i, j):
+    """Tell how many whole shifts put the figure at the second place into the one at the first."""
+    outer = figure_at(places, i)
+    inner = figure_at(places, j)
+    if outer is None or inner is None:
+        return [-1]
+    return [0, shifts(outer, inner)]
+
+
+def put_dual(places, i, slot):
+    """Put the dual of the figure at a place at another, or at its own."""
+    figure = figure_at(places, i)
+    if figure is None or not is_place(slot):
+        return [-1]
+    if not has_dual(figure):
+        return [-2]
+    turned = dual(figure)
+    places[slot] = turned
+    return [len(turned)]
+
+
 def answer(places, call, given, points):
     """What one call answers: its number, its whole numbers, and its points, if it has them."""
     if call == 0:
@@ -105,7 +149,15 @@ def answer(places, call, given, points):
         return tell_corners(places, given[0], given[1])
     if call == 3:
         return tell_about(places, given[0])
-    return put_sum(places, given[0], given[1], given[2])
+    if call == 4:
+        return put_sum(places, given[0], given[1], given[2])
+    if call == 5:
+        return tell_mixed(places, given[0], given[1])
+    if call == 6:
+        return tell_parts(places, given[0])
+    if call == 7:
+        return tell_room(places, given[0], given[1])
+    return put_dual(places, given[0], given[1])
 
 
 def answers(calls):

@@ -53,6 +53,19 @@ def steps(start, end):
     return common_divisor(abs(end[0] - start[0]), abs(end[1] - start[1]))
 
 
+def one_step(start, end):
+    """One of the edge's steps."""
+    count = steps(start, end)
+    return ((end[0] - start[0]) // count, (end[1] - start[1]) // count)
+
+
+def farthest_out(figure, start, end):
+    """For an edge from (x, y) to (u, v): the greatest p*(v-y) - q*(u-x) of the figure's points (p, q)."""
+    right = end[0] - start[0]
+    up = end[1] - start[1]
+    return max([p * up - q * right for p, q in figure])
+
+
 def double_area(figure):
     """Twice the figure's area."""
     return sum([start[0] * end[1] - start[1] * end[0] for start, end in edges(figure)])
@@ -67,3 +80,24 @@ def inside_points(figure):
     """How many whole points are inside the figure."""
     # Pick: twice the area is the rim's points, and twice those inside, less 2.
     return (double_area(figure) - rim_points(figure) + 2) // 2
+
+
+def together(first, second):
+    """What two figures have together."""
+    return sum([farthest_out(first, start, end) for start, end in edges(second)])
+
+
+def is_one_step_off(start, end):
+    """Whether the edge is one step from 0, with 0 to its left."""
+    return start[0] * end[1] - start[1] * end[0] == steps(start, end)
+
+
+def has_dual(figure):
+    """Whether all edges are one step from 0."""
+    return all([is_one_step_off(start, end) for start, end in edges(figure)])
+
+
+def dual(figure):
+    """The figure's dual, if it has one."""
+    along = [one_step(start, end) for start, end in edges(figure)]
+    return hull([(-up, right) for right, up in along])

@@ -1,4 +1,6 @@
-"""What the tests share: calls in the form in which they're handed in, and answers call by call."""
+"""What the tests share: calls in the form in which they're handed in, answers call by call, and figures."""
+
+from math import gcd
 
 from cornerfigures.desk import answers
 
@@ -41,16 +43,32 @@ def total(i, j, slot):
     return [4, i, j, slot]
 
 
+def mixed(i, j):
+    return [5, i, j]
+
+
+def parts(slot):
+    return [6, slot]
+
+
+def room(i, j):
+    return [7, i, j]
+
+
+def dual(i, slot):
+    return [8, i, slot]
+
+
 def split(told):
     """The answers one by one, of the list that's given back."""
-    parts = []
+    found = []
     at = 0
     while at < len(told):
         count = told[at]
         assert count > 0
-        parts.append(told[at + 1:at + 1 + count])
+        found.append(told[at + 1:at + 1 + count])
         at += 1 + count
-    return parts
+    return found
 
 
 def ask(*calls):
@@ -58,9 +76,9 @@ def ask(*calls):
     line = begin()
     for call in calls:
         line.extend(call)
-    parts = split(answers(line))
-    assert parts[0] == [0] and len(parts) == len(calls) + 1
-    return parts[1:]
+    found = split(answers(line))
+    assert found[0] == [0] and len(found) == len(calls) + 1
+    return found[1:]
 
 
 def corner_list(answer):
@@ -83,6 +101,45 @@ def strewn(seed, count):
 def bend(p, q, r):
     """Above 0 if r is to the left of the way from p to q, 0 if it's on their line."""
     return (q[0] - p[0]) * (r[1] - p[1]) - (q[1] - p[1]) * (r[0] - p[0])
+
+
+def sides(figure):
+    """Each edge as (x, y, u, v, g): from (x, y) to (u, v), of g steps."""
+    found = []
+    for k in range(len(figure)):
+        x, y = figure[k - 1]
+        u, v = figure[k]
+        found.append((x, y, u, v, gcd(u - x, v - y)))
+    return found
+
+
+def wrapped(points):
+    """The hull as one who walks round it finds it, with all points to the left; None if they're on one line."""
+    first = min(points)
+    far = max(points)
+    if all(bend(first, far, point) == 0 for point in points):
+        return None
+    corner = first
+    found = []
+    while corner != first or not found:
+        found.append(corner)
+        ahead = None
+        for point in points:
+            if point != corner:
+                side = bend(corner, ahead, point) if ahead else -1
+                if side < 0 or (side == 0 and apart(corner, point) > apart(corner, ahead)):
+                    ahead = point
+        corner = ahead
+    return found
+
+
+def apart(p, q):
+    return abs(p[0] - q[0]) + abs(p[1] - q[1])
+
+
+def added(first, second):
+    """The sum of two figures."""
+    return wrapped([(x + u, y + v) for x, y in first for u, v in second])
 
 
 def walk(steps, start=(0, 0)):

@@ -3,7 +3,7 @@
 import unittest
 
 from cornerfigures.desk import answers
-from helpers import about, begin, corners, hull, raw_hull, split, total
+from helpers import about, begin, corners, dual, hull, mixed, parts, raw_hull, room, split, total
 
 # Each kind of call, refusals among them, with what's given back for it.
 TALK = [
@@ -22,8 +22,26 @@ TALK = [
     (total(0, 1, 0), [1, 5]),
     (about(0), [5, 0, 23, 13, 6, 4]),
     (total(0, 0, 2147483647), [1, -1]),
+    (mixed(0, 1), [2, 0, 8]),
+    (mixed(1, 2), [1, -1]),
+    (parts(1), [2, 0, 4]),
+    (parts(2), [1, -1]),
+    (hull(2, [(0, 0), (17, 0), (0, 7)]), [1, 3]),
+    (parts(2), [1, -2]),
+    (room(0, 1), [2, 0, 10]),
+    (room(1, 0), [2, 0, 0]),
+    (room(-2147483648, 0), [1, -1]),
+    (dual(1, 3), [1, -2]),
+    (dual(1, 8), [1, -1]),
+    (hull(3, [(-1, -1), (1, 0), (0, 1)]), [1, 3]),
+    (dual(3, 3), [1, 3]),
+    (corners(3), [7, 6, 4294967295, 4294967295, 2, 4294967295, 4294967295, 2]),
     (begin(), [1, 0]),
     (about(0), [1, -1]),
+    (mixed(1, 1), [1, -1]),
+    (parts(1), [1, -1]),
+    (room(0, 0), [1, -1]),
+    (dual(3, 3), [1, -1]),
 ]
 
 
@@ -50,6 +68,9 @@ class Answers(unittest.TestCase):
         line = [0, 1, 3, 6, 0, 0, 2, 0, 0, 4294967295, 2, 3, 6, 3, 3, 4, 3, 3, 7, 2, 7, 5, 1, 4, 0, 3, 4]
         told = [1, 0, 1, 3, 7, 6, 0, 4294967295, 2, 0, 0, 0, 5, 0, 2, 4, 0, 1, 1, 3, 1, -2, 1, -1, 1, -1]
         self.assertEqual(answers(line), told)
+        more = [5, 3, 7, 6, 7, 7, 7, 3, 8, 3, 0, 5, 3, 4, 6, 4, 7, 4, 3, 8, 3, 8, 8, 4, 4]
+        told_more = [2, 0, 4, 2, 0, 3, 2, 0, 4, 1, -2, 1, -1, 1, -1, 1, -1, 1, -1, 1, -1]
+        self.assertEqual(answers(line + more), told + told_more)
 
     def test_whole_numbers_in_a_list(self):
         told = answers(talk(len(TALK))[0])
